@@ -1,0 +1,1 @@
+"""Rakedpapers: papers that are marbled on a bath."""

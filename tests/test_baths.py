@@ -64,7 +64,9 @@ class Baths(unittest.TestCase):
             self.check_part("height", width, height, "")
 
     def test_cells(self):
-        for cells in ("", "abc", "abcde", "abcA", "abc ", "abc?", "ab1c", "abc\n", "abc\u00e4", ".....", ("a", "b", "c", "d")):
+        for cells in (
+            "", "abc", "abcde", "abcA", "abc ", "abc?", "ab1c", "abc\n", "abc\u00e4", ".....", ("a", "b", "c", "d"),
+        ):
             self.check_part("cells", 2, 2, cells)
 
 

@@ -83,7 +83,8 @@ class Language(unittest.TestCase):
                     self.assertEqual(node.level, 0)
                     self.assertRegex(node.module, r"\Arakedpapers\.[a-z_]+\Z")
                     bodies = self.trees[node.module.split(".")[1] + ".py"].body
-                    defined = names_bound(ast.Module([one for one in bodies if not isinstance(one, ast.ImportFrom)], []))
+                    own = ast.Module([one for one in bodies if not isinstance(one, ast.ImportFrom)], [])
+                    defined = names_bound(own)
                     self.assertLessEqual({alias.name for alias in node.names}, set(defined))
 
     def test_l10_size(self):

@@ -1,6 +1,8 @@
 """What counts as a number, a sign, a cell, a size, a deed and a recipe."""
 
-from rakedpapers.errors import InvalidRecipe, InvalidSign, InvalidSize, UnknownCell
+from rakedpapers.errors import (
+    InvalidCells, InvalidNumber, InvalidRecipe, InvalidSign, InvalidSize, TooMany, UnknownCell,
+)
 
 LETTERS = "abcdefghijklmnopqrstuvwxyz"
 NOTHING = "."
@@ -101,3 +103,21 @@ def check_sign(sign):
     """Raise InvalidSign for what is neither a colour nor the sign for nothing."""
     if not is_sign(sign):
         raise InvalidSign("no colour, and not the sign for nothing")
+
+
+def check_sign_text(cells, cell_count):
+    """Raise InvalidCells for what is no text of a sign for each of so many cells."""
+    if not is_sign_text(cells, cell_count):
+        raise InvalidCells("no text of signs for all cells")
+
+
+def check_number(number, most):
+    """Raise InvalidNumber for what is no number from 0 to the most."""
+    if not is_number(number, 0, most):
+        raise InvalidNumber(f"no number from 0 to {most}")
+
+
+def check_cell_count(cell_count, most):
+    """Raise TooMany for more cells than the most."""
+    if cell_count > most:
+        raise TooMany(f"the bath has more than {most} cells")

@@ -50,7 +50,7 @@ class TooMany(BathError):
 
 
 class InvalidColours(BathError):
-    """What is no text of different signs."""
+    """What is no text of different letters, or one without any."""
 
 
 class NoDrop(BathError):

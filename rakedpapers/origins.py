@@ -1,8 +1,8 @@
 """Where the colours of a bath and of papers come from, and what papers tell of the beginning."""
 
 from rakedpapers.baths import Bath, done
-from rakedpapers.checks import check_recipe, check_size, is_sign_text
-from rakedpapers.errors import InvalidPapers, TooMany
+from rakedpapers.checks import check_cell_count, check_recipe, check_size, is_sign_text
+from rakedpapers.errors import InvalidPapers
 from rakedpapers.moves import new_signs, things_done
 
 UNKNOWN = "?"
@@ -69,8 +69,7 @@ def texts_of_a_and_b(length):
 def parting_bath(width, height, one, other):
     """Return the first text of letters a and b with which a bath parts two recipes, None if they are alike."""
     check_two(width, height, one, other)
-    if width * height > MOST_PARTING_CELLS:
-        raise TooMany("the bath has too many cells")
+    check_cell_count(width * height, MOST_PARTING_CELLS)
     for text in texts_of_a_and_b(width * height):
         bath = Bath(width, height, text)
         if done(bath, one) != done(bath, other):

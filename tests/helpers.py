@@ -1,15 +1,21 @@
 """What several tests share: sizes, wrong values, and a plain second way to do deeds."""
 
+import itertools
 import random
 
 LETTERS = "abcdefghijklmnopqrstuvwxyz"
 
 SIZES = [(width, height) for width in range(1, 6) for height in range(1, 6) if width * height <= 12]
+SMALL_SIZES = [size for size in SIZES if size[0] * size[1] <= 6]
+LARGE_SIZES = [size for size in SIZES if size[0] * size[1] > 6]
 
 WRONG_SIZES = [
     (0, 1), (6, 1), (-1, 1), (1, 0), (1, 6), (1, -1), (5, 3), (3, 5), (4, 4), (5, 5), (True, 1), (1, True),
     (0, 0), (6, 6),
 ]
+
+# Each of these is no text of signs for the cells of a bath of three columns and two rows.
+WRONG_TEXTS = ["", "abcde", "abcdefg", "abcdeF", "abcde?", "abcde ", "abcde\n", "abcd1f", "abcde\u00e4", "abc-ef"]
 
 WRONG_SIGNS = ["", "ab", "..", "A", " ", "?", "0", "\n", "a.", "\u00e4", "-"]
 
@@ -129,3 +135,20 @@ def some_cells(width, height, seed=0):
     """Return a text of signs for such a bath."""
     chance = random.Random(seed * 10000 + width * 100 + height)
     return "".join(chance.choice(LETTERS + "...") for cell in range(width * height))
+
+
+def slow_behind(width, height, cells, recipe):
+    """Return the text behind all deeds of a recipe."""
+    return ([cells] + slow_done(width, height, cells, recipe)[0])[-1]
+
+
+def all_least_draws(width, height):
+    """Return all rakes and combs for such a bath, with the strides that it needs."""
+    return [("rake", strides) for strides in itertools.product(range(width), repeat=height)] + [
+        ("comb", strides) for strides in itertools.product(range(height), repeat=width)]
+
+
+def some_draws(chance, width, height, most=12):
+    """Return a recipe of rakes and combs alone."""
+    draws = [some_deed(chance, width, height) for turn in range(3 * most)]
+    return tuple(deed for deed in draws if deed[0] in ("rake", "comb"))[:chance.randint(0, most)]

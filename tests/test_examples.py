@@ -1,4 +1,4 @@
-"""The examples of the interface's sections errors, baths and origins, each as it is written."""
+"""The examples of the interface, each as it is written."""
 
 import unittest
 
@@ -51,6 +51,69 @@ raises InvalidPapers(index=0)
 ''',
 ]
 
+UNDOING = [
+    '''
+>>> from rakedpapers.baths import Bath
+>>> from rakedpapers.undoing import opposite, shortened, undoing
+>>> bath = Bath(3, 2, "abcdef")
+>>> marks = [opposite(bath, ("rake", (1, -1))), shortened(bath, (("rake", (2, 0)), ("comb", (2, 0, 0)), ("rake", (1, 4))))]
+>>> marks + [undoing(bath, (("rake", (1, 0)), ("comb", (1, 0, 0)))), undoing(bath, (("drop", 0, "z"),))]
+[('rake', (2, 1)), (('rake', (0, 1)),), (('comb', (1, 0, 0)), ('rake', (2, 0))), None]
+''',
+    '''
+>>> from rakedpapers.baths import Bath
+>>> from rakedpapers.undoing import opposite
+>>> opposite(Bath(3, 2, "abcdef"), ("drop", 0, "z"))
+raises InvalidDeed()
+''',
+]
+
+FEWEST = [
+    '''
+>>> from rakedpapers.baths import Bath
+>>> from rakedpapers.fewest import can_become, draw_count, fewest_draws, fewest_drops, first_drops, recipes_of_drops
+>>> bath, still = Bath(2, 2, "abcd"), Bath(3, 1, "...")
+>>> marks = [draw_count(bath), can_become(bath, "dcba"), fewest_draws(bath, "dcba"), fewest_draws(bath, "aabb")]
+>>> marks = marks + [fewest_drops(still, ".a.", 3), first_drops(still, "aba", 3), fewest_drops(still, "aba", 1)]
+>>> marks + [recipes_of_drops(Bath(2, 1, "a."), 1), recipes_of_drops(Bath(2, 1, "a."), 2)]
+[24, True, 2, None, 1, ((1, 'a'), (1, 'b')), None, 1, 26]
+''',
+    '''
+>>> from rakedpapers.baths import Bath
+>>> from rakedpapers.fewest import draw_count
+>>> draw_count(Bath(4, 2, "........"))
+raises TooMany()
+''',
+]
+
+LASTING = [
+    '''
+>>> from rakedpapers.baths import Bath
+>>> from rakedpapers.lasting import ahead_count, first_ahead, last_drops
+>>> bath = Bath(3, 1, "aba")
+>>> marks = [last_drops(bath), last_drops(Bath(3, 1, "abc")), ahead_count(bath, 1, "ab"), ahead_count(bath, 1, "b")]
+>>> marks + [first_ahead(bath, 1, "ab"), first_ahead(bath, 0, "ab"), first_ahead(bath, 1, "b")]
+[(0, 1, 2), (0, 2), 9, 0, '.a.', 'ba.', None]
+''',
+    '''
+>>> from rakedpapers.baths import Bath
+>>> from rakedpapers.lasting import ahead_count
+>>> ahead_count(Bath(3, 1, "abc"), 1, "abc")
+raises NoDrop()
+''',
+]
+
+AGAIN = [
+    '''
+>>> from rakedpapers.again import after_times, period
+>>> from rakedpapers.baths import Bath
+>>> bath, recipe = Bath(3, 2, "abcdef"), (("rake", (1, 0)),)
+>>> marks = [after_times(bath, recipe, 10 ** 18).cells, period(bath, recipe)]
+>>> marks + [period(Bath(3, 1, "..."), (("drop", 1, "a"),))]
+['cabdef', (0, 3), (2, 1)]
+''',
+]
+
 
 def outcome(example):
     """Return what the last row of an example gives, as the document writes it, and what it writes."""
@@ -77,3 +140,15 @@ class Examples(unittest.TestCase):
 
     def test_origins(self):
         self.check(ORIGINS)
+
+    def test_undoing(self):
+        self.check(UNDOING)
+
+    def test_fewest(self):
+        self.check(FEWEST)
+
+    def test_lasting(self):
+        self.check(LASTING)
+
+    def test_again(self):
+        self.check(AGAIN)

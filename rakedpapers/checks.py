@@ -111,6 +111,12 @@ def check_sign_text(cells, cell_count):
         raise InvalidCells("no text of signs for all cells")
 
 
+def check_paper_cells(cells, cell_count):
+    """Raise InvalidCells for what is no ascending tuple of at least one of so many cells."""
+    if not are_paper_cells(cells, cell_count):
+        raise InvalidCells("no ascending tuple of cells")
+
+
 def check_number(number, most):
     """Raise InvalidNumber for what is no number from 0 to the most."""
     if not is_number(number, 0, most):

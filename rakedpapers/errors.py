@@ -63,3 +63,68 @@ class InvalidPapers(BathError):
     def __init__(self, index):
         super().__init__(f"no text for the paper with the index {index}, or no such paper")
         self.index = index
+
+
+class UnlikeSizes(BathError):
+    """Two baths that are not as large as one another."""
+
+
+class InvalidText(BathError):
+    """What is no text of signs, or not as long as asked."""
+
+
+class InvalidName(BathError):
+    """What is no name of one to eight letters."""
+
+
+class UnknownKept(BathError):
+    """A name under which nothing is kept."""
+
+
+class InvalidOperation(BathError):
+    """What is no operation of a table, at the index."""
+
+    def __init__(self, index):
+        super().__init__(f"no operation of a table at the index {index}")
+        self.index = index
+
+
+class Clash(BathError):
+    """A sign that agrees with no bath at the beginning."""
+
+
+class InvalidLine(BathError):
+    """A word of a recipe's text that is wrong, superfluous or missing, in the row."""
+
+    def __init__(self, row, word):
+        super().__init__(f"in the row {row}, the word {word} is wrong, superfluous or missing")
+        self.row = row
+        self.word = word
+
+
+class DecodeError(BathError):
+    """An item of a code that is wrong, superfluous or missing, at the offset."""
+
+    def __init__(self, offset):
+        super().__init__(f"the item at the offset {offset} is wrong, superfluous or missing")
+        self.offset = offset
+
+
+class ScriptError(BathError):
+    """A row that stands in no script, or that is missing."""
+
+    def __init__(self, row):
+        super().__init__(f"the row {row} is wrong, superfluous or missing")
+        self.row = row
+
+
+class ExecutionFailed(BathError):
+    """A row of a script that cannot be executed."""
+
+    def __init__(self, row):
+        super().__init__(f"the row {row} cannot be executed")
+        self.row = row
+
+
+class TooLong(BathError):
+    """A script of too many steps."""

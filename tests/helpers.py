@@ -152,3 +152,22 @@ def some_draws(chance, width, height, most=12):
     """Return a recipe of rakes and combs alone."""
     draws = [some_deed(chance, width, height) for turn in range(3 * most)]
     return tuple(deed for deed in draws if deed[0] in ("rake", "comb"))[:chance.randint(0, most)]
+
+
+# Each of these is no ascending tuple of at least one cell of a bath of three columns and two rows.
+WRONG_PAPER_CELLS = [
+    (), (6,), (-1,), (-1, 0), (0, 6), (1, 0), (0, 0), (0, 2, 1), (0, 1, 1), (True,), (False, 1), (0, True), (5, 4),
+    (0, 1, 2, 3, 4, 5, 6),
+]
+
+
+def some_paper_cells(chance, cell_count):
+    """Return any ascending tuple of at least one cell."""
+    return tuple(sorted(chance.sample(range(cell_count), chance.randint(1, cell_count))))
+
+
+def all_paper_cells(cell_count):
+    """Return all ascending tuples of at least one cell, in tuple order."""
+    cells = range(cell_count)
+    return sorted(
+        chosen for count in range(1, cell_count + 1) for chosen in itertools.combinations(cells, count))

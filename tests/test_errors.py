@@ -1,12 +1,16 @@
-"""The errors of the interface's first section."""
+"""The errors of both of the interface's sections."""
 
 import unittest
 
 from rakedpapers import errors
 
 WITHOUT = ["InvalidSize", "UnknownCell", "InvalidSign", "InvalidDeed", "InvalidCells", "InvalidNumber", "TooMany",
-           "InvalidColours", "NoDrop"]
-WITH = {"InvalidBath": "part", "InvalidRecipe": "index", "InvalidPapers": "index"}
+           "InvalidColours", "NoDrop", "UnlikeSizes", "InvalidText", "InvalidName", "UnknownKept", "Clash", "TooLong"]
+WITH = {
+    "InvalidBath": ("part",), "InvalidRecipe": ("index",), "InvalidPapers": ("index",),
+    "InvalidOperation": ("index",), "InvalidLine": ("row", "word"), "DecodeError": ("offset",),
+    "ScriptError": ("row",), "ExecutionFailed": ("row",),
+}
 
 
 class ErrorClasses(unittest.TestCase):
@@ -21,10 +25,18 @@ class ErrorClasses(unittest.TestCase):
 
     def test_attributes_are_set_when_the_error_is_created(self):
         self.assertEqual(errors.InvalidBath("width").part, "width")
-        self.assertEqual(errors.InvalidRecipe(3).index, 3)
-        self.assertEqual(errors.InvalidPapers(0).index, 0)
+        for name, attributes in WITH.items():
+            values = list(range(3, 3 + len(attributes)))
+            with self.subTest(name):
+                error = getattr(errors, name)(*values)
+                self.assertEqual(vars(error), dict(zip(attributes, values)))
+                self.assertEqual(vars(getattr(errors, name)(**dict(zip(attributes, values)))), vars(error))
 
     def test_the_others_need_nothing(self):
         for name in WITHOUT:
             with self.subTest(name):
                 self.assertIsInstance(getattr(errors, name)(), errors.BathError)
+
+    def test_there_are_no_others(self):
+        found = [name for name in vars(errors) if isinstance(getattr(errors, name), type)]
+        self.assertEqual(sorted(found), sorted(WITHOUT + list(WITH) + ["BathError"]))

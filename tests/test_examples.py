@@ -114,6 +114,59 @@ AGAIN = [
 ''',
 ]
 
+CARRYING = [
+    '''
+>>> from rakedpapers.carrying import carried, first_paper, least_carried, moments, paper_count
+>>> from rakedpapers.baths import Bath
+>>> one, other = Bath(2, 1, "ab"), Bath(2, 1, "c.")
+>>> found = [bath.cells for bath in carried(one, other, (1,))] + [least_carried(one, other, "cb")]
+>>> found + [paper_count(Bath(4, 1, "abab"), "ab"), first_paper(one, "b"), moments(one, (("rake", (1,)),), (0,), "b")]
+['a.', 'cb', (1,), 3, (1,), [1]]
+''',
+    '''
+>>> from rakedpapers.carrying import carried
+>>> from rakedpapers.baths import Bath
+>>> carried(Bath(2, 1, "ab"), Bath(1, 2, "ab"), (0,))
+raises UnlikeSizes()
+''',
+]
+
+GUESSES = [
+    '''
+>>> from rakedpapers.guesses import first_order, first_rake, nth_seen, orders_to, rake_count, seen_times, sure_strides
+>>> from rakedpapers.baths import Bath
+>>> two, three = Bath(2, 1, "ab"), Bath(3, 1, "abc")
+>>> recipe = (("drop", 0, "x"), ("rake", (1,)))
+>>> found = [orders_to(two, recipe, "xb"), first_order(two, recipe, "xb"), rake_count(three, (0,), "c")]
+>>> found = found + [first_rake(three, (0,), "c"), sure_strides(three, (0,), "?")]
+>>> found + [seen_times(three, (1,), 0, "a", 10), nth_seen(three, (1,), 0, "b", 10 ** 15)]
+[1, (1, 0), 1, (1,), (None,), 4, 3000000000000002]
+''',
+    '''
+>>> from rakedpapers.guesses import seen_times
+>>> from rakedpapers.baths import Bath
+>>> seen_times(Bath(2, 1, "ab"), (1, 1), 0, "a", 1)
+raises InvalidDeed()
+''',
+]
+
+TABLES = [
+    '''
+>>> from rakedpapers.tables import Table
+>>> from rakedpapers.baths import Bath
+>>> table = Table(Bath(2, 1, "ab"))
+>>> found = table.apply_all([("drop", 0, "x"), ("rake", (1,)), ("paper", (0,)), ("keep_as", "y")])
+>>> [found, table.bath_now.cells, table.papers_made, table.colours_now, table.undo(), table.undo(), table.bath_now.cells]
+[[2, 2, 'a', False], '.x', ['a'], 'x', True, True, 'ax']
+''',
+    '''
+>>> from rakedpapers.tables import Table
+>>> from rakedpapers.baths import Bath
+>>> Table(Bath(2, 1, "ab")).rake((10,))
+raises InvalidDeed()
+''',
+]
+
 
 def outcome(example):
     """Return what the last row of an example gives, as the document writes it, and what it writes."""
@@ -152,3 +205,12 @@ class Examples(unittest.TestCase):
 
     def test_again(self):
         self.check(AGAIN)
+
+    def test_carrying(self):
+        self.check(CARRYING)
+
+    def test_guesses(self):
+        self.check(GUESSES)
+
+    def test_tables(self):
+        self.check(TABLES)

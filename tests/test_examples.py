@@ -167,6 +167,70 @@ raises InvalidDeed()
 ''',
 ]
 
+PEEKING = [
+    '''
+>>> from rakedpapers.peeking import Peeker
+>>> peeker = Peeker(2, 1, (("drop", 0, "x"),))
+>>> found = [peeker.useful(), peeker.fewest_looks(), peeker.sure_cells(), peeker.seen(1, "b")]
+>>> found + [peeker.known, peeker.useful(), peeker.sure_cells()]
+[(1,), 1, 'x?', 1, 'b?', (), 'xb']
+''',
+    '''
+>>> from rakedpapers.peeking import Peeker
+>>> Peeker(2, 1, (("drop", 0, "x"),)).seen(0, ".")
+raises Clash()
+''',
+]
+
+NOTATION = [
+    r'''
+>>> from rakedpapers.notation import drawing, read_recipe, recipe_text, source_map
+>>> from rakedpapers.baths import Bath
+>>> bath, recipe = Bath(2, 2, "ab.c"), (("drop", 0, "x"), ("rake", (1, -2)))
+>>> found = [drawing(bath), recipe_text(recipe), read_recipe(bath, recipe_text(recipe)) == recipe]
+>>> found + [source_map(2, 1, recipe[:1])]
+['ab\n.c', 'drop 0 x\nrake 1 -2', True, 'd0 0']
+''',
+    '''
+>>> from rakedpapers.notation import read_recipe
+>>> from rakedpapers.baths import Bath
+>>> read_recipe(Bath(2, 2, "...."), "rake 1")
+raises InvalidLine(row=0, word=2)
+''',
+]
+
+CODEC = [
+    '''
+>>> from rakedpapers.codec import decode_bath, encode_bath
+>>> from rakedpapers.baths import Bath
+>>> values = encode_bath(Bath(2, 1, "a."))
+>>> [values, decode_bath(values).cells]
+[[103, 2, 1, 1, 0, 163], 'a.']
+''',
+    '''
+>>> from rakedpapers.codec import decode_bath
+>>> decode_bath([103, 6])
+raises DecodeError(offset=1)
+''',
+]
+
+SCRIPTS = [
+    r'''
+>>> from rakedpapers.baths import Bath
+>>> from rakedpapers.scripts import run_script
+>>> lines = ["drop 0 x", "show", "when 1 a", "paper 1", "end", "repeat 2", "rake 1", "end", "show"]
+>>> table, output = run_script(Bath(2, 1, "ab"), "\n".join(lines))
+>>> [output, table.papers_made, len(table.history)]
+[['xa', 'a', 'x.'], ['a'], 4]
+''',
+    '''
+>>> from rakedpapers.baths import Bath
+>>> from rakedpapers.scripts import run_script
+>>> run_script(Bath(2, 1, "ab"), "rake 1 1")
+raises ExecutionFailed(row=0)
+''',
+]
+
 
 def outcome(example):
     """Return what the last row of an example gives, as the document writes it, and what it writes."""
@@ -214,3 +278,15 @@ class Examples(unittest.TestCase):
 
     def test_tables(self):
         self.check(TABLES)
+
+    def test_peeking(self):
+        self.check(PEEKING)
+
+    def test_notation(self):
+        self.check(NOTATION)
+
+    def test_codec(self):
+        self.check(CODEC)
+
+    def test_scripts(self):
+        self.check(SCRIPTS)

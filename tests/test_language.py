@@ -105,6 +105,31 @@ class Language(unittest.TestCase):
                     self.assertNotIn(bound, BARRED_NAMES)
                     self.assertNotIn(bound, dir(builtins))
 
+    def test_l15_no_second_meaning_for_imports_and_classes(self):
+        for name, tree in self.trees.items():
+            taken = {alias.name for node in tree.body if isinstance(node, ast.ImportFrom) for alias in node.names}
+            taken |= {node.name for node in tree.body if isinstance(node, ast.ClassDef)}
+            for node in ast.walk(tree):
+                if isinstance(node, ast.arg):
+                    self.assertNotIn(node.arg, taken, name)
+                if isinstance(node, ast.Name) and not isinstance(node.ctx, ast.Load):
+                    self.assertNotIn(node.id, taken, name)
+
+    def test_l18_no_name_is_a_method_and_an_attribute(self):
+        methods = {
+            one.name for name, node in self.nodes() if isinstance(node, ast.ClassDef)
+            for one in node.body if isinstance(one, ast.FunctionDef)}
+        attributes = {
+            node.attr for name, node in self.nodes()
+            if isinstance(node, ast.Attribute) and not isinstance(node.ctx, ast.Load)}
+        self.assertEqual(methods & attributes, set())
+
+    def test_l24_no_set_is_iterated(self):
+        sets = (ast.Set, ast.SetComp)
+        for name, node in self.nodes():
+            if isinstance(node, (ast.For, ast.comprehension)):
+                self.assertNotIsInstance(node.iter, sets, name)
+
     def test_l6_l7_statements_and_operators(self):
         for name, node in self.nodes():
             with self.subTest(file=name, line=getattr(node, "lineno", 0)):

@@ -208,6 +208,7 @@ class Trial:
         self.past_before = None
 
     def __exit__(self, kind, value, trace):
-        if self.past_before is not None:
-            self.table.past = self.past_before
-            self.table.ahead = self.ahead_before
+        if self.past_before is None:
+            return
+        self.table.past = self.past_before
+        self.table.ahead = self.ahead_before
